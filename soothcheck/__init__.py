@@ -1,0 +1,1 @@
+"""Soothcheck: a small language of functions, a checker and a runner."""
