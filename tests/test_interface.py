@@ -17,6 +17,19 @@ FUNCTIONS = {
         "head_of": ["value"],
         "is_of": ["value", "kind", "standing"],
     },
+    "soothcheck.fitting": {
+        "fits": ["one", "other", "bounds"],
+        "ground": ["one", "other", "bounds"],
+        "lean": ["kind", "bounds"],
+    },
+    "soothcheck.programs": {
+        "need_program": ["program"],
+    },
+    "soothcheck.checking": {
+        "check": ["program"],
+        "must_pass": ["program"],
+        "found_kind": ["program", "name"],
+    },
 }
 
 

@@ -25,10 +25,14 @@ METHODS = set("""append clear copy count endswith extend find get index insert i
     isupper items join keys ljust lower lstrip partition pop remove replace reverse rfind rjust rpartition rsplit
     rstrip setdefault split splitlines startswith strip update upper values zfill bit_length add discard
     removeprefix removesuffix isascii sort __init__""".split())
+# Names of params and variables that are called: they hold functions of the package.
+CALLED = {"look", "may_lead", "need"}
 BARRED = (ast.Global, ast.AsyncFunctionDef, ast.Await, ast.Div, ast.Import)
 BARRED_NAMES = set("""register mro elements open input law version_info attrgetter breakpoint builtins compile copyright
     credits delattr dir eval exec exit gc globals hasattr getattr setattr help id importlib license locals
-    methodcaller os quit type vars sys print chr bytes frozenset object float hash round format filter""".split())
+    methodcaller os quit type vars sys print chr bytes frozenset object float hash round format filter
+    _cold _tuplegetter _outside _record _written_out _member_names""".split())
+BARRED_BEGINNINGS = ("_wall", "_pe_", "_dcw_", "_enum_", "_cm_", "_twin_re_", "_lay_", "_law_", "_stub_", "_sre")
 
 
 def files():
@@ -92,8 +96,19 @@ class Rules(unittest.TestCase):
                     name = getattr(node, attribute, None)
                     if isinstance(name, str):
                         self.assertNotIn(name, BARRED_NAMES, where)
+                        self.assertFalse(name.startswith(BARRED_BEGINNINGS), where)
+
+    def own_methods(self):
+        """The methods that the package's classes define."""
+        names = set()
+        for _, tree in self.trees():
+            for owner in ast.walk(tree):
+                if isinstance(owner, ast.ClassDef):
+                    names |= {node.name for node in owner.body if isinstance(node, ast.FunctionDef)}
+        return names
 
     def test_calls(self):
+        methods = METHODS | self.own_methods()
         for path, tree in self.trees():
             own = {node.name for node in tree.body if isinstance(node, (ast.FunctionDef, ast.ClassDef))}
             for node in tree.body:
@@ -103,10 +118,10 @@ class Rules(unittest.TestCase):
                 if isinstance(node, ast.Call):
                     where = (path, node.lineno)
                     if isinstance(node.func, ast.Name):
-                        self.assertIn(node.func.id, own | BUILTINS, where)
+                        self.assertIn(node.func.id, own | BUILTINS | CALLED, where)
                     else:
                         self.assertIsInstance(node.func, ast.Attribute, where)
-                        self.assertIn(node.func.attr, METHODS, where)
+                        self.assertIn(node.func.attr, methods, where)
 
 
 if __name__ == "__main__":
