@@ -1,15 +1,10 @@
 """Checking: the kinds that are found of a program's parts, and which functions do not pass."""
 
+from soothcheck.dues import NUMBER, SIZED, SOME_BOOK, SOME_ROW, TEXT, with_field
 from soothcheck.errors import NoName, Refused
 from soothcheck.fitting import ground
 from soothcheck.kinds import joined, narrowed, opened, put_in
 from soothcheck.programs import need_program
-
-NUMBER = (("number",),)
-TEXT = (("text",),)
-SOME_ROW = (("some", "row"),)
-SOME_BOOK = (("some", "book"),)
-SIZED = (("some", "book"), ("some", "row"), ("text",))
 
 
 class Looking:
@@ -104,7 +99,7 @@ def _look_shape(part, names, looking):
 
 
 def _look_get(part, names, looking):
-    kind = _found_fitting(part[1], (("with", part[2]),), names, looking)
+    kind = _found_fitting(part[1], with_field(part[2]), names, looking)
     kinds = []
     for choice in opened(kind, looking.bounds):
         kinds.extend([within for field, within in choice[1] if field == part[2]])

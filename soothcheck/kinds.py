@@ -79,7 +79,12 @@ def _need_letter(letter, letters):
 
 def is_word(thing):
     """Whether this can be a field or a name."""
-    return _has_word_length(thing) and all("a" <= sign <= "z" for sign in thing)
+    return _has_word_length(thing) and has_word_signs(thing)
+
+
+def has_word_signs(text):
+    """Whether the text has no other signs than words have, however long it is."""
+    return all("a" <= sign <= "z" for sign in text)
 
 
 def is_letter(thing):

@@ -34,6 +34,8 @@ FORMS = {
     "has": ("known", "field", "part", "part"),
     "call": ("function", "kinds", "handed"),
 }
+# Parts of these words are told and read in signs of their own, all others by their words.
+SIGNED = ("num", "text", "name", "row", "shape", "call")
 
 
 class Place:

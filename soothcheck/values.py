@@ -1,6 +1,6 @@
 """Values: their heads, and which of them are of a kind."""
 
-from soothcheck.kinds import are_fields, choice_head, head_answers, shape_head
+from soothcheck.kinds import are_fields, choice_head, has_word_signs, head_answers, shape_head
 
 
 def head_of(value):
@@ -37,7 +37,7 @@ def _may_be_value(thing):
     if isinstance(thing, dict):
         return all(isinstance(key, str) for key in thing)
     if isinstance(thing, tuple):
-        return are_fields(thing)
+        return are_fields(thing) and all(has_word_signs(pair[0]) for pair in thing)
     return isinstance(thing, (int, str, list))
 
 
@@ -55,10 +55,11 @@ def parts_of(value):
 def is_of(value, kind, standing):
     """Whether the value is of the kind, or of what is due, at the standing."""
     # == holds True for 1, so what is no value must be told apart before letters are asked.
-    return is_value(value) and _is_of_kind(value, kind, standing)
+    return is_value(value) and value_is_of(value, kind, standing)
 
 
-def _is_of_kind(value, kind, standing):
+def value_is_of(value, kind, standing):
+    """As is_of, of what is known to be a value; it looks no deeper than the kind goes."""
     return any(_is_of_choice(value, choice, standing) for choice in kind)
 
 
@@ -79,7 +80,7 @@ def _is_of_choice(value, choice, standing):
 def _are_parts_of_choice(value, choice, standing):
     parts = parts_of(value)
     for part, kind in zip(parts, _kinds_of_parts(choice, len(parts))):
-        if not _is_of_kind(part, kind, standing):
+        if not value_is_of(part, kind, standing):
             return False
     return True
 

@@ -30,6 +30,16 @@ FUNCTIONS = {
         "must_pass": ["program"],
         "found_kind": ["program", "name"],
     },
+    "soothcheck.running": {
+        "run": ["program", "name", "told", "breath"],
+    },
+    "soothcheck.telling": {
+        "shown": ["program"],
+    },
+    "soothcheck.reading": {
+        "read": ["text"],
+        "read_kind": ["text"],
+    },
 }
 
 

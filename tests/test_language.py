@@ -26,7 +26,7 @@ METHODS = set("""append clear copy count endswith extend find get index insert i
     rstrip setdefault split splitlines startswith strip update upper values zfill bit_length add discard
     removeprefix removesuffix isascii sort __init__""".split())
 # Names of params and variables that are called: they hold functions of the package.
-CALLED = {"look", "may_lead", "need"}
+CALLED = {"look", "may_lead", "need", "read_one", "show", "work"}
 BARRED = (ast.Global, ast.AsyncFunctionDef, ast.Await, ast.Div, ast.Import)
 BARRED_NAMES = set("""register mro elements open input law version_info attrgetter breakpoint builtins compile copyright
     credits delattr dir eval exec exit gc globals hasattr getattr setattr help id importlib license locals

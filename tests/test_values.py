@@ -205,6 +205,11 @@ class Deep(unittest.TestCase):
         self.assertEqual(head_of((("abcdefghi", 1),)), "shape abcdefghi")
         self.assertIs(is_of((("abcdefghi", 1),), (("with", "abcdefghi"),), {}), True)
 
+    def test_fields_of_other_signs_are_none(self):
+        for field in ("A", "a1", "a b", "a-", "\xe4"):
+            self.assertIs(is_of(((field, 1),), (("with", field),), {}), False)
+            self.assertIs(is_of([((field, 1),)], SOME_ROW, {}), False)
+
 
 if __name__ == "__main__":
     unittest.main()
